@@ -1,0 +1,56 @@
+"""Lines of machines: each piece reads what the one before it says."""
+
+from alwaysnew.errors import InvalidBox
+from alwaysnew.running import check_reading, check_state
+
+
+def line_step(pieces, states, letter):
+    """Return the pair of the line standing to which the letter leads, and the word that the line says."""
+    check_pieces(pieces)
+    check_reading(pieces[0][0], (letter,))
+    check_states(pieces, states)
+    return line_moved(pieces, states, letter)
+
+
+def line_standing(pieces, past):
+    """Return the line standing to which the past leads from (0, .., 0)."""
+    check_pieces(pieces)
+    check_reading(pieces[0][0], past)
+    states = (0,) * len(pieces)
+    for letter in past:
+        states = line_moved(pieces, states, letter)[0]
+    return states
+
+
+def check_pieces(pieces):
+    """Raise InvalidBox if the pieces make no line."""
+    if not pieces:
+        raise InvalidBox("none", -1)
+    check_words(pieces)
+
+
+def check_words(pieces):
+    """Raise InvalidBox for the first piece in whose rows a word stands that the next one does not read."""
+    for at in range(len(pieces) - 1):
+        letters = pieces[at + 1][0]
+        for row in pieces[at][1]:
+            if not all([word == "" or word in letters for _, word in row]):
+                raise InvalidBox("word", at)
+
+
+def check_states(pieces, states):
+    """Raise InvalidState for the first of states that is no state of its piece."""
+    for at in range(len(pieces)):
+        check_state(pieces[at], states[at])
+
+
+def line_moved(pieces, states, letter):
+    """Return what line_step returns, for pieces, states and a letter that are known to be right."""
+    standing = list(states)
+    word = letter
+    for at in range(len(pieces)):
+        letters, rows = pieces[at]
+        standing[at], word = rows[states[at]][letters.index(word)]
+        if word == "":
+            break
+    return (tuple(standing), word)

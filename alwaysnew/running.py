@@ -1,0 +1,117 @@
+"""Machines that read: where a reading leads, what is said on the way, and which states are reached."""
+
+from alwaysnew.errors import InvalidLetter, InvalidState
+from alwaysnew.kinds import is_number
+
+
+def is_letter(letters, thing):
+    """Return whether thing, any value, is one of the letters."""
+    return isinstance(thing, str) and thing in letters
+
+
+def check_reading(letters, reading):
+    """Raise InvalidLetter for the first element of reading that is none of the letters."""
+    for thing in reading:
+        if not is_letter(letters, thing):
+            raise InvalidLetter(thing)
+
+
+def check_state(machine, thing):
+    """Raise InvalidState if thing, any value, is no state of the machine."""
+    if not is_number(thing) or thing >= len(machine[1]):
+        raise InvalidState(thing)
+
+
+def unsaid(word, quiet):
+    """Return the word, or the empty string if it is a quiet one."""
+    return "" if word in quiet else word
+
+
+def led(machine, reading, *, state=0):
+    """Return the state to which the reading leads from the state."""
+    return _read(machine, reading, state)[0]
+
+
+def said(machine, reading, *, state=0, quiet=()):
+    """Return the tuple of the words that the reading says from the state, quiet ones left unsaid."""
+    words = _read(machine, reading, state)[1]
+    return tuple([unsaid(word, quiet) for word in words])
+
+
+def step(machine, state, letter):
+    """Return the pair (next, word) of the letter in the state."""
+    check_reading(machine[0], (letter,))
+    check_state(machine, state)
+    place = machine[0].index(letter)
+    follower, word = machine[1][state][place]
+    return (follower, word)
+
+
+def reached_states(machine):
+    """Return the ascending tuple of the states to which some past leads."""
+    return tuple(sorted(least_ways(machine)))
+
+
+def past_to(machine, state):
+    """Return the least past that leads to the state, or None if there is none."""
+    check_state(machine, state)
+    ways = least_ways(machine)
+    return past_along(ways, state) if state in ways else None
+
+
+def walked(machine):
+    """Return the machine in walked form: the reached states, numbered in the order of their least pasts."""
+    letters, rows = machine
+    order = list(least_ways(machine))
+    places = {order[place]: place for place in range(len(order))}
+    walked_rows = [tuple([(places[follower], word) for follower, word in rows[state]]) for state in order]
+    return (letters, tuple(walked_rows))
+
+
+def quieted(machine, words):
+    """Return the machine, its states as they are, that says the empty string in place of each of words."""
+    letters, rows = machine
+    quiet_rows = [tuple([(follower, unsaid(word, words)) for follower, word in row]) for row in rows]
+    return (letters, tuple(quiet_rows))
+
+
+def least_ways(machine):
+    """Return a dict of the reached states, in the order of their least pasts.
+
+    It gives for each state the state before it and the letter between, on its least past; None for the start.
+    """
+    letters, rows = machine
+    ways = {0: None}
+    order = [0]
+    done = 0
+    while done < len(order):
+        state = order[done]
+        for place in range(len(letters)):
+            follower = rows[state][place][0]
+            if follower not in ways:
+                ways[follower] = (state, letters[place])
+                order.append(follower)
+        done += 1
+    return ways
+
+
+def past_along(ways, state):
+    """Return the least past to a state, found by the dict that least_ways returned."""
+    backwards = []
+    way = ways[state]
+    while way is not None:
+        backwards.append(way[1])
+        way = ways[way[0]]
+    return tuple(backwards[::-1])
+
+
+def _read(machine, reading, state):
+    letters, rows = machine
+    check_reading(letters, reading)
+    check_state(machine, state)
+    places = {letters[place]: place for place in range(len(letters))}
+    words = []
+    for letter in reading:
+        state, word = rows[state][places[letter]]
+        words.append(word)
+    return (state, words)

@@ -1,0 +1,122 @@
+"""Values that many tests use, and slow but plain ways to compute what the program computes."""
+
+import itertools
+import random
+
+from alwaysnew import errors
+
+OLD = (('a', 'b'), (((1, ''), (0, '')), ((0, ''), (1, ''))))
+NEW = (('a', 'b'), (((1, ''), (2, 'no')), ((0, ''), (2, 'yes')), ((2, ''), (2, ''))))
+FIRST = (('a', 'b'), (((1, ''), (2, '')), ((1, 'x'), (1, 'x')), ((2, 'y'), (2, 'y'))))
+LATE = (('a',), (((1, ''),), ((2, 'x'),), ((2, 'y'),)))
+LAST = (('a', 'b'), (((0, 'x'), (1, 'x')), ((0, 'y'), (1, 'y'))))
+ONCE = (('a', 'b'), (((0, ''), (1, 'go')), ((1, ''), (1, ''))))
+ALL = (('go',), (((0, 'x'),),))
+COUNT = (('go',), (((1, 'x'),), ((0, ''),)))
+LONE = (('a',), (((0, ''),),))
+# States 1 and 3 are not reached, and state 1 is alike with state 2.
+GAPS = (('a', 'b'), (((2, 'x'), (4, '')), ((4, 'y'), (1, '')), ((4, 'y'), (2, '')), ((0, 'z'), (3, 'z')),
+                     ((0, ''), (4, 'x'))))
+THREE = (('a', 'bb', 'c'), (((3, 'x'), (0, ''), (1, 'go')), ((1, ''), (2, 'x'), (0, 'x')),
+                            ((2, 'go'), (2, ''), (0, '')), ((1, 'x'), (0, ''), (2, 'go'))))
+# The names of these are words of the texts themselves.
+NAMED = (('letters', 'plan', 'state'), (((1, 'state'), (0, 'letters'), (0, '')), ((0, 'quiet'), (1, ''), (1, 'read'))))
+MACHINES = (OLD, NEW, FIRST, LATE, LAST, ONCE, ALL, COUNT, LONE, GAPS, THREE, NAMED)
+
+SIXTY = 10 ** 60 - 1
+DEEP = 'a'
+for _ in range(28):
+    DEEP = (DEEP,)
+
+# Values of many kinds; none of them is a name, a state of a machine above, or a set of names.
+ODD = (None, True, False, -1, -2, SIXTY, -SIXTY, 'A', 'aB', 'a b', ' a', 'a-', 'a1', '1', 'ninechars', 'a\n', '{',
+       'zz:top', ('a', 'a'), ('b', 'a'), ('', 'a'), (1,), (None,), [], [0], ['a'], ['a', 'b'], ((),), (('a',),), [[]],
+       ('a', ['b']), ('a', 1), DEEP, (DEEP, [DEEP]))
+
+REFUSED = (errors.InvalidPaper, errors.InvalidLetter, errors.InvalidState, errors.InvalidBox, errors.NotReached,
+           errors.InvalidText)
+
+
+def caught(call, *args, **named):
+    """Return the error that a call raises, as a tuple of its class and its fields, or None."""
+    try:
+        call(*args, **named)
+    except errors.NewError as error:
+        assert type(error) in REFUSED
+        return (type(error), *vars(error).values())
+    return None
+
+
+def readings(letters, longest):
+    """Return all readings of up to longest letters, shorter ones first, equally long ones ascending."""
+    return [reading for many in range(longest + 1) for reading in itertools.product(letters, repeat=many)]
+
+
+def plain_run(machine, reading, state=0, quiet=()):
+    """Return the state to which a reading leads, and the words that it says."""
+    words = []
+    for letter in reading:
+        state, word = machine[1][state][machine[0].index(letter)]
+        words.append('' if word in quiet else word)
+    return state, tuple(words)
+
+
+def plain_pasts(machine):
+    """Return a dict of the reached states with their least pasts."""
+    pasts = {}
+    for past in readings(machine[0], len(machine[1]) - 1):
+        pasts.setdefault(plain_run(machine, past)[0], past)
+    return pasts
+
+
+def plain_parting(machine, one, other, quiet=()):
+    """Return the least reading that parts two states, or None."""
+    for reading in readings(machine[0], len(machine[1])):
+        if plain_run(machine, reading, one, quiet)[1][-1:] != plain_run(machine, reading, other, quiet)[1][-1:]:
+            return reading
+    return None
+
+
+def made_machine(seed, states=4, letters=('a', 'b'), words=('', '', 'x', 'y')):
+    """Return a machine that depends on the seed only."""
+    chance = random.Random(seed)
+    rows = [tuple([(chance.randrange(states), chance.choice(words)) for _ in letters]) for _ in range(states)]
+    return (letters, tuple(rows))
+
+
+def small_machines():
+    """Return all machines with two states, the letter a, and the words x and nothing."""
+    pairs = [(follower, word) for follower in (0, 1) for word in ('', 'x')]
+    return [(('a',), ((one,), (other,))) for one in pairs for other in pairs]
+
+
+def is_new_kind(value):
+    """Return whether a value consists of tuples, strings, bools, None and integers of exactly these kinds."""
+    if type(value) is tuple:
+        return all(is_new_kind(part) for part in value)
+    return type(value) in (str, int, bool, type(None))
+
+
+def plain_line(pieces, states, letter):
+    """Return the line standing to which a letter leads, and the word that the line says."""
+    if not pieces:
+        return (), letter
+    if letter == '':
+        return tuple(states), ''
+    follower, word = pieces[0][1][states[0]][pieces[0][0].index(letter)]
+    standing, last = plain_line(pieces[1:], states[1:], word)
+    return (follower, *standing), last
+
+
+def standings_of(pieces):
+    """Return all line standings, ascending."""
+    return list(itertools.product(*[range(len(piece[1])) for piece in pieces]))
+
+
+def plain_line_run(pieces, states, reading):
+    """Return the line standing to which a reading leads, and the words that the line says."""
+    words = []
+    for letter in reading:
+        states, word = plain_line(pieces, states, letter)
+        words.append(word)
+    return tuple(states), tuple(words)
