@@ -54,3 +54,26 @@ def line_moved(pieces, states, letter):
         if word == "":
             break
     return (tuple(standing), word)
+
+
+def line_rows(pieces, starts):
+    """Return the line standings that readings reach from starts, numbered, and their rows.
+
+    starts are distinct and come first. A row has a pair for each letter: the number of the standing to which it
+    leads, and the word that the line says.
+    """
+    standings = list(starts)
+    places = {}
+    for standing in starts:
+        places[standing] = len(places)
+    rows = []
+    while len(rows) < len(standings):
+        row = []
+        for letter in pieces[0][0]:
+            standing, word = line_moved(pieces, standings[len(rows)], letter)
+            if standing not in places:
+                places[standing] = len(standings)
+                standings.append(standing)
+            row.append((places[standing], word))
+        rows.append(tuple(row))
+    return (standings, tuple(rows))

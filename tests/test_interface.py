@@ -15,6 +15,15 @@ FUNCTIONS = {
     'lines': {'line_step': '(pieces, states, letter)', 'line_standing': '(pieces, past)'},
     'machinetexts': {'machine_text': '(machine)', 'reading_text': '(reading)'},
     'eventtexts': {'event_line': '(event)', 'log_lines': '(log)'},
+    'machinereadings': {'machine_read': '(text)', 'reading_read': '(text)'},
+    'eventreadings': {'read_event': '(text)', 'read_log': '(lines)'},
+    'machinetables': {'machine_table': '(machine)'},
+    'alikeness': {'are_alike': '(machine, one, other, *, quiet=())', 'classes_of': '(machine, *, quiet=())',
+                  'parting_reading': '(machine, one, other, *, quiet=())'},
+    'alikepapers': {'alike_paper': '(machine, one, other, *, quiet=())'},
+    'least': {'least_machine': '(machine, *, quiet=())', 'is_least': '(machine)'},
+    'linesettings': {'new_standings': '(pieces, index, new, states)',
+                     'places_in_line': '(pieces, index, new, states, *, free=(), quiet=())'},
 }
 CLASSES = {
     'errors': {'NewError': {}, 'PaperError': {}, 'MachineError': {}, 'ServiceError': {}, 'TextError': {},
@@ -23,6 +32,15 @@ CLASSES = {
                'InvalidKnowledge': {'__init__': '(self, word, at)'}, 'NotReached': {'__init__': '(self, standing)'},
                'InvalidEvent': {'__init__': '(self, event, reason)'}, 'NothingToUndo': {'__init__': '(self, steps)'},
                'InvalidText': {'__init__': '(self, line, field)'}, 'InvalidRow': {'__init__': '(self, row)'}},
+    'boxes': {'Box': {'__init__': '(self, machine)', 'machine': 'property', 'letters': 'property', '__len__': '(self)',
+                      '__contains__': '(self, thing)', '__getitem__': '(self, state)', '__call__': '(self, past)',
+                      'after': '(self, past)', '__or__': '(self, other)', '__eq__': '(self, other)',
+                      'pasts': '(self)', '__str__': '(self)', 'parsed': 'classmethod (cls, text)',
+                      'silent': 'staticmethod (*letters)'},
+              'Line': {'__init__': '(self, *boxes)', 'parts': 'property'},
+              'Every': {'__init__': '(self, letters, many, word)'}, 'Echo': {'__init__': '(self, letters)'},
+              'Once': {'__init__': '(self, letters, letter, word)'}, 'Renamed': {'__init__': '(self, box, **names)'},
+              'Quiet': {'__init__': '(self, box, *words)'}, 'Spelled': {'__init__': '(self, box, table)'}},
 }
 
 

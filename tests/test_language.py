@@ -144,7 +144,7 @@ class LanguageTest(unittest.TestCase):
                 self.assertIn(node.func.attr, METHODS | defined | {'__init__'}, (name, node.lineno))
             else:
                 self.assertIsInstance(node.func, ast.Name, (name, node.lineno))
-                self.assertIn(node.func.id, USABLE | defined, (name, node.lineno))
+                self.assertIn(node.func.id, USABLE | defined | {'cls'}, (name, node.lineno))
 
     def test_sets_stand_in_sorted_and_len_only(self):
         inside = [id(argument) for _, node in nodes(ast.Call) if isinstance(node.func, ast.Name)
