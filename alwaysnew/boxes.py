@@ -164,11 +164,10 @@ class Spelled(Box):
     def __init__(self, box, table):
         if not _is_table(table):
             raise InvalidBox("table", -1)
-        for _, reading in table:
-            check_reading(box.letters, reading)
-        letters = tuple([letter for letter, _ in table])
-        rows = [tuple([_spelled_pair(box.machine, state, reading) for _, reading in table])
-                for state in range(len(box))]
+        for entry in table:
+            check_reading(box.letters, entry[1])
+        letters = tuple([entry[0] for entry in table])
+        rows = [_spelled_row(box.machine, state, table) for state in range(len(box))]
         Box.__init__(self, (letters, tuple(rows)))
 
 
@@ -189,7 +188,11 @@ def _is_table(thing):
 
 
 def _is_entry(thing):
-    return isinstance(thing, tuple) and len(thing) == 2 and is_name(thing[0]) and is_reading(thing[1])
+    return isinstance(thing, tuple) and len(thing) == 2 and is_reading(thing[1])
+
+
+def _spelled_row(machine, state, table):
+    return tuple([_spelled_pair(machine, state, reading) for _, reading in table])
 
 
 def _spelled_pair(machine, state, reading):

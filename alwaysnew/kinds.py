@@ -23,7 +23,7 @@ def is_name(thing):
 
 def is_word(thing):
     """Return whether thing is a name or the empty string."""
-    return isinstance(thing, str) and (thing == "" or is_name(thing))
+    return thing == "" or is_name(thing)
 
 
 def is_reading(thing):

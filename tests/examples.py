@@ -2,6 +2,7 @@
 
 import itertools
 import random
+import re
 
 from alwaysnew import errors
 
@@ -32,6 +33,10 @@ for _ in range(28):
 ODD = (None, True, False, -1, -2, SIXTY, -SIXTY, 'A', 'aB', 'a b', ' a', 'a-', 'a1', '1', 'ninechars', 'a\n', '{',
        'zz:top', ('a', 'a'), ('b', 'a'), ('', 'a'), (1,), (None,), [], [0], ['a'], ['a', 'b'], ((),), (('a',),), [[]],
        ('a', ['b']), ('a', 1), DEEP, (DEEP, [DEEP]))
+
+# Patterns of a name and of a number in texts.
+NAME = '[a-z]{1,8}'
+NUMBER = '(0|[1-9][0-9]{0,59})'
 
 REFUSED = (errors.InvalidPaper, errors.InvalidLetter, errors.InvalidState, errors.InvalidBox, errors.NotReached,
            errors.InvalidText)
@@ -120,3 +125,27 @@ def plain_line_run(pieces, states, reading):
         states, word = plain_line(pieces, states, letter)
         words.append(word)
     return tuple(states), tuple(words)
+
+
+def changed_texts(text, seed, many):
+    """Yield texts with one or two changed words, lines or signs."""
+    chance = random.Random(seed)
+    pieces = ['', ' ', '\n', ',', ':', '-', '0', '1', '00', 'a', 'b', 'z', 'A', 'state', 'letters', '1:-', ':x', '~',
+              'abcdefghi', '9' * 60, '9' * 61]
+    for _ in range(many):
+        changed = text
+        for _ in range(chance.choice((1, 1, 2))):
+            parts = re.split(chance.choice(('( )', '(\n)', '(,)', '(:)', '( |\n)', '()')), changed)
+            at = chance.randrange(len(parts))
+            action = chance.randrange(4)
+            if action == 0:
+                parts[at] = chance.choice(pieces)
+            elif action == 1:
+                del parts[at]
+            elif action == 2:
+                parts.insert(at, chance.choice(pieces))
+            else:
+                other = chance.randrange(len(parts))
+                parts[at], parts[other] = parts[other], parts[at]
+            changed = ''.join(parts)
+        yield changed

@@ -20,8 +20,8 @@ MIXED = (('a', 'b'), (((2, ''), (0, 'x')), ((3, ''), (1, 'y')), ((0, 'z'), (2, '
 def all_papers(states):
     """Return all papers with an ascending tuple of right pairs."""
     pairs = [(p, q) for q in range(states) for p in range(q)]
-    chosen = itertools.chain.from_iterable(itertools.combinations(sorted(pairs), many) for many in range(len(pairs) + 1))
-    return [('alike', pairs) for pairs in chosen]
+    return [('alike', chosen) for many in range(len(pairs) + 1)
+            for chosen in itertools.combinations(sorted(pairs), many)]
 
 
 def is_right(machine, one, other, pairs, quiet):

@@ -3,7 +3,7 @@
 import itertools
 import unittest
 
-from alwaysnew.boxes import Box, Echo, Every, Line, Once, Quiet, Renamed, Spelled
+from alwaysnew.boxes import Box, Echo, Every, Line, Quiet, Renamed, Spelled
 from alwaysnew.errors import InvalidBox, InvalidLetter, InvalidPaper, InvalidState, InvalidText
 from alwaysnew.machinechecker import lets_machine
 from alwaysnew.machinereadings import machine_read
@@ -144,7 +144,8 @@ class BoxTest(unittest.TestCase):
 
     def test_refused_values(self):
         for thing in (*ODD, 0, '', (), NEW[:1], list(NEW), (('b', 'a'), NEW[1]), (NEW[0], ()), (('a',), NEW[1]),
-                      (('a',), (((1, ''),),)), (('a',), (((0, ''),), ((-1, ''),))), (('a',), (((True, ''),),)), Box(NEW)):
+                      (('a',), (((1, ''),),)), (('a',), (((0, ''),), ((-1, ''),))),
+                      (('a',), (((True, ''),),)), Box(NEW)):
             expected = caught(lets_machine, thing)
             self.assertIs(expected[0], InvalidPaper)
             self.assertEqual(caught(Box, thing), expected)
@@ -162,7 +163,8 @@ class BoxTest(unittest.TestCase):
                             ('letters a\nstate 9:- x', (1, 2)), ('letters a\nstate 1:x\n', (2, 0))):
             self.assertEqual(caught(Box.parsed, text), (InvalidText, *place))
         self.assertEqual(caught(Box.parsed, 'letters a\nstate 1:x'), (InvalidPaper, 'next', (0, 0)))
-        self.assertEqual(caught(Box.parsed, 'letters a,b\nstate 1:x 0:-\nstate 0:- 2:-'), (InvalidPaper, 'next', (1, 1)))
+        self.assertEqual(caught(Box.parsed, 'letters a,b\nstate 1:x 0:-\nstate 0:- 2:-'),
+                         (InvalidPaper, 'next', (1, 1)))
 
     def test_silent(self):
         box = Box.silent('b', 'a', 'b')

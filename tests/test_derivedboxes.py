@@ -263,11 +263,13 @@ class SpelledTest(unittest.TestCase):
     def test_states_that_are_reached_no_more(self):
         self.assertEqual(len(Spelled(Box(NEW), (('a', ('a', 'a')),))), 1)
         self.assertEqual(len(Spelled(Box(NEW), (('a', ('a',)),))), 2)
-        self.assertEqual(Spelled(box=Box(FIRST), table=(('c', ('b',)), ('d', ('a',)))), Renamed(Box(FIRST), a='d', b='c'))
+        self.assertEqual(Spelled(box=Box(FIRST), table=(('c', ('b',)), ('d', ('a',)))),
+                         Renamed(Box(FIRST), a='d', b='c'))
 
     def test_tables_that_are_none(self):
         for thing in (*ODD, 0, '', (), 'ab', ('a', ('a',)), ('a',), (('a',),), (('a', ('a',), ()),), (['a', ('a',)],),
-                      [('a', ('a',))], (('a', ['a']),), (('a', 'a'),), (('a', None),), (('a', ('',)),), (('a', ('A',)),),
+                      [('a', ('a',))], (('a', ['a']),), (('a', 'a'),), (('a', None),), (('a', ('',)),),
+                      (('a', ('A',)),),
                       (('a', (1,)),), (('', ('a',)),), (('A', ('a',)),), ((1, ('a',)),), ((True, ('a',)),),
                       (('abcdefghi', ()),), (('b', ()), ('a', ())), (('a', ()), ('a', ())), (('a', ()), ('a', ('b',))),
                       (('a', ('b',)), ('a', ('a',))), (('a', ()), ()), (('a', ()), None), ((('a',), ()),),

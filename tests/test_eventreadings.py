@@ -6,8 +6,8 @@ import unittest
 from alwaysnew.errors import InvalidText
 from alwaysnew.eventreadings import read_event, read_log
 from alwaysnew.eventtexts import event_line, log_lines
-from tests.examples import LATE, MACHINES, NAMED, NEW, OLD, SIXTY, caught, is_new_kind
-from tests.test_machinereadings import NAME, NUMBER, changed_texts
+from tests.examples import (LATE, MACHINES, NAME, NAMED, NEW, NUMBER, OLD, SIXTY, caught, changed_texts,
+                            is_new_kind)
 
 NAMES = f'-|{NAME}(,{NAME})*'
 FORMS = {'read': [NAME], 'replace': [NUMBER], 'force': [NUMBER, NUMBER], 'quiet': [NAMES], 'forget': [NUMBER]}
@@ -114,7 +114,8 @@ class ReadEventTest(unittest.TestCase):
     def test_letters_and_names(self):
         for word in ('', '-', 'A', 'a,b', 'abcdefghi', 'a\n', '\na', 'a\nb', '0', 'a1'):
             self.refuses('read ' + word, 1)
-        for word in ('', 'b,a', 'a,a', 'a,', ',a', '-,a', 'a,-', '--', 'A', 'a,B', 'abcdefghi', 'a\n', '-\n', 'a,b\n', '1'):
+        for word in ('', 'b,a', 'a,a', 'a,', ',a', '-,a', 'a,-', '--', 'A', 'a,B', 'abcdefghi', 'a\n', '-\n', 'a,b\n',
+                     '1'):
             self.refuses('quiet ' + word, 1)
         self.refuses('read a\nread b', 1)
 

@@ -56,7 +56,8 @@ class LeastTest(unittest.TestCase):
         self.assertRaises(TypeError, least_machine, LATE, ())
 
     def test_states_that_are_not_reached(self):
-        self.assertEqual(least_machine(GAPS), (('a', 'b'), (((1, 'x'), (2, '')), ((2, 'y'), (1, '')), ((0, ''), (2, 'x')))))
+        self.assertEqual(least_machine(GAPS),
+                         (('a', 'b'), (((1, 'x'), (2, '')), ((2, 'y'), (1, '')), ((0, ''), (2, 'x')))))
 
     def test_is_least(self):
         for machine in (*MACHINES, *MADE, EQUAL):

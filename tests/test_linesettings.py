@@ -179,7 +179,8 @@ class ErrorsTest(unittest.TestCase):
         for index, free, wrong in ((1, (1,), 1), (1, (3,), 3), (1, (0, 0), 0), (1, (2, 0), 0), (1, (0, 1), 1),
                                    (0, (1, 2, 3), 3), (0, (1, 2, 2), 2), (0, (0,), 0), (2, (0, 1, 2), 2),
                                    (0, (2, 1), 1), (1, (SIXTY,), SIXTY), (1, (0, 2, 1), 1)):
-            self.refuses((InvalidBox, 'free', wrong), pieces, index, DEAF if index == 1 else FIRST, (0, 0, 0), free=free)
+            new = DEAF if index == 1 else FIRST
+            self.refuses((InvalidBox, 'free', wrong), pieces, index, new, (0, 0, 0), free=free)
             # Before the letters, the words, the states, and whether they are reached.
             self.refuses((InvalidBox, 'free', wrong), pieces, index, ALL, (9, 9, 9), free=free)
 

@@ -1,16 +1,14 @@
 """[20] and [21]: machine_read and reading_read."""
 
-import random
 import re
 import unittest
 
 from alwaysnew.errors import InvalidText
 from alwaysnew.machinereadings import machine_read, reading_read
 from alwaysnew.machinetexts import machine_text, reading_text
-from tests.examples import MACHINES, NAMED, NEW, OLD, SIXTY, caught, is_new_kind, made_machine, readings
+from tests.examples import (MACHINES, NAME, NAMED, NEW, NUMBER, OLD, SIXTY, caught, changed_texts, is_new_kind,
+                            made_machine, readings)
 
-NAME = '[a-z]{1,8}'
-NUMBER = '(0|[1-9][0-9]{0,59})'
 TEXT = machine_text(NEW)
 
 
@@ -34,30 +32,6 @@ def plain_place(text):
         if len(words) > len(forms):
             return line, len(forms)
     return None if len(lines) > 1 else (1, 0)
-
-
-def changed_texts(text, seed, many):
-    """Yield texts with one or two changed words, lines or signs."""
-    chance = random.Random(seed)
-    pieces = ['', ' ', '\n', ',', ':', '-', '0', '1', '00', 'a', 'b', 'z', 'A', 'state', 'letters', '1:-', ':x', '~',
-              'abcdefghi', '9' * 60, '9' * 61]
-    for _ in range(many):
-        changed = text
-        for _ in range(chance.choice((1, 1, 2))):
-            parts = re.split(chance.choice(('( )', '(\n)', '(,)', '(:)', '( |\n)', '()')), changed)
-            at = chance.randrange(len(parts))
-            action = chance.randrange(4)
-            if action == 0:
-                parts[at] = chance.choice(pieces)
-            elif action == 1:
-                del parts[at]
-            elif action == 2:
-                parts.insert(at, chance.choice(pieces))
-            else:
-                other = chance.randrange(len(parts))
-                parts[at], parts[other] = parts[other], parts[at]
-            changed = ''.join(parts)
-        yield changed
 
 
 class MachineReadTest(unittest.TestCase):
@@ -123,17 +97,17 @@ class MachineReadTest(unittest.TestCase):
             self.refuses('letters a\n' + word + ' 0:-', 1, 0)
 
     def test_letters(self):
-        for letters in ('b,a', 'a,a', 'a,', ',a', ',', 'a,,b', '-', 'A', 'a,B', 'abcdefghi', 'a;b', 'a1', '1', 'a,b,ab'):
+        for letters in ('b,a', 'a,a', 'a,', ',a', ',', 'a,,b', '-', 'A', 'a,B', 'abcdefghi', 'a;b', 'a1', '1',
+                        'a,b,ab'):
             self.refuses('letters ' + letters + '\nstate 0:-', 0, 1)
         self.assertEqual(machine_read('letters abcdefgh\nstate 0:-')[0], ('abcdefgh',))
 
     def test_pairs(self):
-        for pair in ('', '0', '0:', ':', ':-', ':x', '-:-', '0-', '0:--', '0:X', '0:-:', '0:x:', '0:x:y', '0::x', '00:-',
-                     '01:x', '+1:x', '-1:x', '1.0:x', 'a:x', '0:abcdefghi', '0:x1', '0:x,y', ' ', '0:~', 'x0:x', '1_0:x',
-                     '9' * 61 + ':x', '1' + '0' * 60 + ':x', '0' * 60 + ':x', '0:0', 'state'):
-            if ' ' not in pair:
-                self.refuses('letters a,b\nstate 0:- ' + pair, 1, 2)
-                self.refuses('letters a,b\nstate ' + pair + ' 0:-', 1, 1)
+        for pair in ('', '0', '0:', ':', ':-', ':x', '-:-', '0-', '0:--', '0:X', '0:-:', '0:x:', '0:x:y', '0::x',
+                     '00:-', '01:x', '+1:x', '-1:x', '1.0:x', 'a:x', '0:abcdefghi', '0:x1', '0:x,y', '0:~', 'x0:x',
+                     '1_0:x', '9' * 61 + ':x', '1' + '0' * 60 + ':x', '0' * 60 + ':x', '0:0', 'state'):
+            self.refuses('letters a,b\nstate 0:- ' + pair, 1, 2)
+            self.refuses('letters a,b\nstate ' + pair + ' 0:-', 1, 1)
 
     def test_numbers_of_sixty_digits(self):
         self.assertEqual(machine_read('letters a\nstate ' + '9' * 60 + ':x')[1], (((SIXTY, 'x'),),))
@@ -179,7 +153,8 @@ class ReadingReadTest(unittest.TestCase):
         self.assertIs(type(reading_read('a,b')), tuple)
 
     def test_refused(self):
-        for text in ('', ' ', ',', 'a,', ',a', 'a,,b', '-,a', 'a,-', '--', 'a b', 'a, b', ' a', 'a ', 'a\n', '\na', '\n',
+        for text in ('', ' ', ',', 'a,', ',a', 'a,,b', '-,a', 'a,-', '--', 'a b', 'a, b', ' a', 'a ', 'a\n', '\na',
+                     '\n',
                      'a,b\n', 'a\nb', '- ', '-\n', 'A', 'a,B', 'abcdefghi', 'a1', '0', "a'", 'a;b'):
             self.assertEqual(caught(reading_read, text), (InvalidText, 0, 0), repr(text))
 

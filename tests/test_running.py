@@ -170,7 +170,8 @@ class QuietedTest(unittest.TestCase):
                 self.assertEqual([[pair[0] for pair in row] for row in still[1]],
                                  [[pair[0] for pair in row] for row in machine[1]])
                 for state, reading in itertools.product(range(len(machine[1])), readings(machine[0], 2)):
-                    self.assertEqual(said(still, reading, state=state), said(machine, reading, state=state, quiet=words))
+                    self.assertEqual(said(still, reading, state=state),
+                                     said(machine, reading, state=state, quiet=words))
 
     def test_states_that_are_not_reached_are_quiet_too(self):
         self.assertEqual(quieted(GAPS, ('z',))[1][3], ((0, ''), (3, '')))
