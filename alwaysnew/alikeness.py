@@ -1,5 +1,6 @@
 """Which states of a machine are alike, and what parts those that are not."""
 
+from alwaysnew.pairs import ordered_pair
 from alwaysnew.running import check_state, past_along, quieted
 
 
@@ -38,7 +39,7 @@ def pair_ways(machine, one, other):
     letter that says different words, or None.
     """
     letters, rows = machine
-    order = [] if one == other else [(min(one, other), max(one, other))]
+    order = [] if one == other else [ordered_pair(one, other)]
     ways = {}
     if order:
         ways[order[0]] = None
@@ -50,7 +51,7 @@ def pair_ways(machine, one, other):
             other_next, other_word = other_row[place]
             if one_word != other_word:
                 return (ways, (order[done], letters[place]))
-            pair = (min(one_next, other_next), max(one_next, other_next))
+            pair = ordered_pair(one_next, other_next)
             if one_next != other_next and pair not in ways:
                 ways[pair] = (order[done], letters[place])
                 order.append(pair)

@@ -59,9 +59,9 @@ class Box:
 
     def pasts(self):
         """Yield the least pasts to the states, in the order of the states."""
-        ways = least_ways(self._machine)
-        for state in ways:
-            yield past_along(ways, state)
+        ways = least_ways((self._machine,))
+        for standing in ways:
+            yield past_along(ways, standing)
 
     @classmethod
     def parsed(cls, text):

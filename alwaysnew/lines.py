@@ -1,7 +1,7 @@
 """Lines of machines: each piece reads what the one before it says."""
 
 from alwaysnew.errors import InvalidBox
-from alwaysnew.running import check_reading, check_state
+from alwaysnew.running import check_reading, check_states
 
 
 def line_step(pieces, states, letter):
@@ -36,12 +36,6 @@ def check_words(pieces):
         for row in pieces[at][1]:
             if not all([word == "" or word in letters for _, word in row]):
                 raise InvalidBox("word", at)
-
-
-def check_states(pieces, states):
-    """Raise InvalidState for the first of states that is no state of its piece."""
-    for at in range(len(pieces)):
-        check_state(pieces[at], states[at])
 
 
 def line_moved(pieces, states, letter):

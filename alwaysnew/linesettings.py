@@ -3,31 +3,57 @@
 from alwaysnew.alikeness import classes_of
 from alwaysnew.errors import InvalidBox, NotReached
 from alwaysnew.kinds import is_number
-from alwaysnew.lines import check_pieces, check_states, check_words, line_moved, line_rows
+from alwaysnew.lines import check_pieces, check_words, line_rows
+from alwaysnew.running import check_states, least_ways, past_along
 
 
 def new_standings(pieces, index, new, states):
     """Return the set of the standings of the new line after those pasts that lead the line to states."""
-    return _checked_standings(pieces, index, new, states, ())
+    return tuple(standing_pasts(pieces, index, new, states, ()))
 
 
 def places_in_line(pieces, index, new, states, *, free=(), quiet=()):
     """Return the set of all settings whose set standing is alike, in the new line, with each new standing."""
-    standings = _checked_standings(pieces, index, new, states, free)
-    line = changed_line(pieces, index, new)
+    standings = list(standing_pasts(pieces, index, new, states, free))
     settings = [()]
-    for piece in (new, *[pieces[at] for at in free]):
+    for piece in set_pieces(pieces, new, free):
         settings = [(*setting, state) for setting in settings for state in range(len(piece[1]))]
     set_standings = [set_standing(states, index, free, setting) for setting in settings]
+    line = changed_line(pieces, index, new)
     classes = _line_classes(line, sorted(set([*standings, *set_standings])), quiet)
     wanted = [classes[standing] for standing in standings]
     return tuple([settings[at] for at in range(len(settings))
                   if all([one == classes[set_standings[at]] for one in wanted])])
 
 
+def standing_pasts(pieces, index, new, states, free):
+    """Return a dict of the new standings, ascending, each with the least past that leads the line to states, too.
+
+    Raise the errors of the replacement, behind those of the functions of lines.
+    """
+    check_pieces(pieces)
+    if not is_number(index) or index >= len(pieces):
+        raise InvalidBox("index", index)
+    _check_free(pieces, index, free)
+    if index == 0 and new[0] != pieces[0][0]:
+        raise InvalidBox("letters", -1)
+    line = changed_line(pieces, index, new)
+    check_words(line)
+    check_states(pieces, states)
+    found = _pasts_together(pieces, line, states)
+    if not found:
+        raise NotReached(states)
+    return {standing: found[standing] for standing in sorted(found)}
+
+
 def changed_line(pieces, index, new):
     """Return the pieces of the new line."""
     return (*pieces[:index], new, *pieces[index + 1:])
+
+
+def set_pieces(pieces, new, free):
+    """Return the list of the machines of which a setting has states."""
+    return [new, *[pieces[at] for at in free]]
 
 
 def set_standing(states, index, free, setting):
@@ -46,23 +72,6 @@ def _line_classes(line, standings, quiet):
     return {standings[at]: classes[at] for at in range(len(standings))}
 
 
-def _checked_standings(pieces, index, new, states, free):
-    """Return the new standings, behind the errors of the functions of lines."""
-    check_pieces(pieces)
-    if not is_number(index) or index >= len(pieces):
-        raise InvalidBox("index", index)
-    _check_free(pieces, index, free)
-    if index == 0 and new[0] != pieces[0][0]:
-        raise InvalidBox("letters", -1)
-    line = changed_line(pieces, index, new)
-    check_words(line)
-    check_states(pieces, states)
-    standings = _standings_together(pieces, line, states)
-    if not standings:
-        raise NotReached(states)
-    return standings
-
-
 def _check_free(pieces, index, free):
     before = -1
     for at in free:
@@ -71,18 +80,11 @@ def _check_free(pieces, index, free):
         before = at
 
 
-def _standings_together(pieces, line, states):
-    """Return the set of the standings of line after the pasts that lead pieces to states."""
+def _pasts_together(pieces, line, states):
+    """Return a dict of the standings of line after the pasts that lead pieces to states, with such a past each."""
     start = (0,) * len(pieces)
-    order = [(start, start)]
-    seen = {order[0]: True}
-    done = 0
-    while done < len(order):
-        standing, line_standing = order[done]
-        for letter in pieces[0][0]:
-            both = (line_moved(pieces, standing, letter)[0], line_moved(line, line_standing, letter)[0])
-            if both not in seen:
-                seen[both] = True
-                order.append(both)
-        done += 1
-    return tuple(sorted([both[1] for both in order if both[0] == states]))
+    standings, rows = line_rows(pieces, [start])
+    line_standings, new_rows = line_rows(line, [start])
+    letters = pieces[0][0]
+    ways = least_ways(((letters, rows), (letters, new_rows)))
+    return {line_standings[both[1]]: past_along(ways, both) for both in ways if standings[both[0]] == states}

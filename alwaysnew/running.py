@@ -16,10 +16,21 @@ def check_reading(letters, reading):
             raise InvalidLetter(thing)
 
 
+def is_state(machine, thing):
+    """Return whether thing, any value, is a state of the machine."""
+    return is_number(thing) and thing < len(machine[1])
+
+
 def check_state(machine, thing):
     """Raise InvalidState if thing, any value, is no state of the machine."""
-    if not is_number(thing) or thing >= len(machine[1]):
+    if not is_state(machine, thing):
         raise InvalidState(thing)
+
+
+def check_states(machines, states):
+    """Raise InvalidState for the first of states that is no state of its machine."""
+    for at in range(len(machines)):
+        check_state(machines[at], states[at])
 
 
 def unsaid(word, quiet):
@@ -38,6 +49,13 @@ def said(machine, reading, *, state=0, quiet=()):
     return tuple([unsaid(word, quiet) for word in words])
 
 
+def is_parting(machine, one, other, reading, quiet):
+    """Return whether the last letter of the reading says different words from both states, quiet ones left unsaid."""
+    one_words = said(machine, reading, state=one, quiet=quiet)
+    other_words = said(machine, reading, state=other, quiet=quiet)
+    return one_words[-1:] != other_words[-1:]
+
+
 def step(machine, state, letter):
     """Return the pair (next, word) of the letter in the state."""
     check_reading(machine[0], (letter,))
@@ -49,20 +67,19 @@ def step(machine, state, letter):
 
 def reached_states(machine):
     """Return the ascending tuple of the states to which some past leads."""
-    return tuple(sorted(least_ways(machine)))
+    return tuple(sorted([standing[0] for standing in least_ways((machine,))]))
 
 
 def past_to(machine, state):
     """Return the least past that leads to the state, or None if there is none."""
     check_state(machine, state)
-    ways = least_ways(machine)
-    return past_along(ways, state) if state in ways else None
+    return least_past((machine,), (state,))
 
 
 def walked(machine):
     """Return the machine in walked form: the reached states, numbered in the order of their least pasts."""
     letters, rows = machine
-    order = list(least_ways(machine))
+    order = [standing[0] for standing in least_ways((machine,))]
     places = {order[place]: place for place in range(len(order))}
     walked_rows = [tuple([(places[follower], word) for follower, word in rows[state]]) for state in order]
     return (letters, tuple(walked_rows))
@@ -75,34 +92,45 @@ def quieted(machine, words):
     return (letters, tuple(quiet_rows))
 
 
-def least_ways(machine):
-    """Return a dict of the reached states, in the order of their least pasts.
+def least_ways(versions):
+    """Return a dict of the reached standings, in the order of their least pasts.
 
-    It gives for each state the state before it and the letter between, on its least past; None for the start.
+    It gives for each standing the one before it and the letter between, on its least past; None for the start.
     """
-    letters, rows = machine
-    ways = {0: None}
-    order = [0]
+    letters = versions[0][0]
+    start = (0,) * len(versions)
+    ways = {start: None}
+    order = [start]
     done = 0
     while done < len(order):
-        state = order[done]
         for place in range(len(letters)):
-            follower = rows[state][place][0]
+            follower = standing_moved(versions, order[done], place)
             if follower not in ways:
-                ways[follower] = (state, letters[place])
+                ways[follower] = (order[done], letters[place])
                 order.append(follower)
         done += 1
     return ways
 
 
-def past_along(ways, state):
-    """Return the least past to a state, found by the dict that least_ways returned."""
+def standing_moved(versions, standing, place):
+    """Return the standing to which the letter with this place leads from the standing."""
+    return tuple([versions[at][1][standing[at]][place][0] for at in range(len(versions))])
+
+
+def past_along(ways, goal):
+    """Return the least reading to the goal, found by a dict like that of least_ways."""
     backwards = []
-    way = ways[state]
+    way = ways[goal]
     while way is not None:
         backwards.append(way[1])
         way = ways[way[0]]
     return tuple(backwards[::-1])
+
+
+def least_past(versions, standing):
+    """Return the least past that leads to the standing, or None if there is none."""
+    ways = least_ways(versions)
+    return past_along(ways, standing) if standing in ways else None
 
 
 def _read(machine, reading, state):

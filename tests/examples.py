@@ -1,10 +1,12 @@
 """Values that many tests use, and slow but plain ways to compute what the program computes."""
 
+import copy
 import itertools
 import random
 import re
 
 from alwaysnew import errors
+from alwaysnew.knowledge import Knowledge
 
 OLD = (('a', 'b'), (((1, ''), (0, '')), ((0, ''), (1, ''))))
 NEW = (('a', 'b'), (((1, ''), (2, 'no')), ((0, ''), (2, 'yes')), ((2, ''), (2, ''))))
@@ -39,17 +41,26 @@ NAME = '[a-z]{1,8}'
 NUMBER = '(0|[1-9][0-9]{0,59})'
 
 REFUSED = (errors.InvalidPaper, errors.InvalidLetter, errors.InvalidState, errors.InvalidBox, errors.NotReached,
-           errors.InvalidText)
+           errors.InvalidKnowledge, errors.InvalidText)
 
 
 def caught(call, *args, **named):
-    """Return the error that a call raises, as a tuple of its class and its fields, or None."""
-    try:
-        call(*args, **named)
-    except errors.NewError as error:
-        assert type(error) in REFUSED
-        return (type(error), *vars(error).values())
-    return None
+    """Return the error that a call raises, as a tuple of its class and its fields, or None.
+
+    The call is made twice: it raises the same error again, and it does not change what it is given.
+    """
+    before = copy.deepcopy((args, named))
+    found = []
+    for _ in range(2):
+        try:
+            call(*args, **named)
+            found.append(None)
+        except errors.NewError as error:
+            assert type(error) in REFUSED
+            found.append((type(error), *vars(error).values()))
+    assert found[0] == found[1]
+    assert (args, named) == before
+    return found[0]
 
 
 def readings(letters, longest):
@@ -82,6 +93,51 @@ def plain_parting(machine, one, other, quiet=()):
     return None
 
 
+def plain_reached(versions):
+    """Return a dict of the reached standings with their least pasts."""
+    found = {}
+    level = {(0,) * len(versions): ()}
+    while level:
+        found.update(level)
+        more = {}
+        for standing, past in level.items():
+            for letter in versions[0][0]:
+                after = tuple(plain_run(machine, (letter,), state)[0] for machine, state in zip(versions, standing))
+                if after not in found:
+                    more[after] = min(more.get(after, (*past, letter)), (*past, letter))
+        level = more
+    return found
+
+
+def plain_after(versions, past):
+    """Return the standing to which a past leads."""
+    return tuple(plain_run(machine, past)[0] for machine in versions)
+
+
+def renumbered(machine, order):
+    """Return the machine with its states in another order, which begins with state 0."""
+    letters, rows = machine
+    return (letters, tuple(tuple((order.index(follower), word) for follower, word in rows[state]) for state in order))
+
+
+def changed_rows(machine):
+    """Yield all machines in which one pair of one row has another state or another word."""
+    letters, rows = machine
+    for state, at in itertools.product(range(len(rows)), range(len(letters))):
+        follower, word = rows[state][at]
+        others = [(other, word) for other in range(len(rows)) if other != follower]
+        for pair in (*others, (follower, 'x' if word != 'x' else '')):
+            row = (*rows[state][:at], pair, *rows[state][at + 1:])
+            yield (letters, (*rows[:state], row, *rows[state + 1:]))
+
+
+def plain_parting_past(one, other, quiet=()):
+    """Return the least of the shortest pasts whose last letter says different words in both, or None."""
+    found = [(*past, letter) for (p, q), past in plain_reached((one, other)).items() for letter in one[0]
+             if plain_run(one, (letter,), p, quiet)[1] != plain_run(other, (letter,), q, quiet)[1]]
+    return min(found, key=lambda past: (len(past), past), default=None)
+
+
 def made_machine(seed, states=4, letters=('a', 'b'), words=('', '', 'x', 'y')):
     """Return a machine that depends on the seed only."""
     chance = random.Random(seed)
@@ -95,11 +151,37 @@ def small_machines():
     return [(('a',), ((one,), (other,))) for one in pairs for other in pairs]
 
 
+def version_groups():
+    """Return groups of one to three versions with the same letters."""
+    groups = [(OLD,), (GAPS,), (LONE,), (OLD, NEW), (NEW, OLD), (OLD, FIRST), (GAPS, LAST), (OLD, OLD), (LATE, LONE),
+              (OLD, NEW, FIRST), (FIRST, GAPS, OLD), (NEW, LAST, NEW), (LATE, LATE, LONE)]
+    for seed in range(100, 112, 2):
+        groups.append((made_machine(seed, 4), made_machine(seed + 1, 3)))
+        groups.append((made_machine(seed, 3), made_machine(seed + 1, 2), made_machine(seed + 50, 3)))
+        groups.append((made_machine(seed, 3, THREE[0]), THREE))
+    return groups
+
+
 def is_new_kind(value):
     """Return whether a value consists of tuples, strings, bools, None and integers of exactly these kinds."""
     if type(value) is tuple:
         return all(is_new_kind(part) for part in value)
     return type(value) in (str, int, bool, type(None))
+
+
+def known(groups):
+    """Yield some knowledges of each group of versions."""
+    for versions in groups:
+        reached = sorted(plain_reached(versions))
+        for given in (reached, reached[:1], reached[-1:], reached[::2], reached[1::3] or reached):
+            yield Knowledge(versions, tuple(given))
+
+
+def plain_equal(one, other):
+    """Return whether two values are equal, and their kinds too."""
+    if type(one) is tuple:
+        return type(other) is tuple and len(one) == len(other) and all(map(plain_equal, one, other))
+    return type(one) is type(other) and one == other
 
 
 def plain_line(pieces, states, letter):

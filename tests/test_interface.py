@@ -24,6 +24,15 @@ FUNCTIONS = {
     'least': {'least_machine': '(machine, *, quiet=())', 'is_least': '(machine)'},
     'linesettings': {'new_standings': '(pieces, index, new, states)',
                      'places_in_line': '(pieces, index, new, states, *, free=(), quiet=())'},
+    'sameness': {'says_the_same': '(one, other, *, quiet=())', 'parting_past': '(one, other, *, quiet=())'},
+    'samepapers': {'same_paper': '(one, other, *, quiet=())'},
+    'samechecker': {'lets_same': '(one, other, thing, *, quiet=())'},
+    'quietwords': {'words_said': '(machine)', 'parting_words': '(machine, one, other)'},
+    'standings': {'standing_after': '(versions, past)', 'reached_standings': '(versions)',
+                  'past_to_standing': '(versions, standing)', 'standings_led': '(versions, standings, reading)'},
+    'readiness': {'true_states': '(k, i, *, quiet=())', 'is_true': '(k, i, t, *, quiet=())',
+                  'is_ready': '(k, i, *, quiet=())', 'ready_versions': '(k, *, quiet=())'},
+    'linepapers': {'line_paper': '(pieces, index, new, states, setting, *, free=(), quiet=())'},
 }
 CLASSES = {
     'errors': {'NewError': {}, 'PaperError': {}, 'MachineError': {}, 'ServiceError': {}, 'TextError': {},
@@ -41,6 +50,14 @@ CLASSES = {
               'Every': {'__init__': '(self, letters, many, word)'}, 'Echo': {'__init__': '(self, letters)'},
               'Once': {'__init__': '(self, letters, letter, word)'}, 'Renamed': {'__init__': '(self, box, **names)'},
               'Quiet': {'__init__': '(self, box, *words)'}, 'Spelled': {'__init__': '(self, box, table)'}},
+    'knowledge': {'Knowledge': {'__init__': '(self, versions, standings)', 'versions': 'property',
+                                'standings': 'property', '__len__': '(self)', '__contains__': '(self, thing)',
+                                '__eq__': '(self, other)', 'places': '(self, i)', 'allows': '(self, past)',
+                                'begun': 'staticmethod (*machines)', 'any_past': 'staticmethod (*machines)',
+                                '__call__': '(self, letter)', 'after': '(self, *letters)',
+                                'extended': '(self, machine, *, tail=())', 'forgotten': '(self, i)',
+                                'cut': '(self, tail)', '__or__': '(self, other)', '__and__': '(self, other)',
+                                'lies_in': '(self, other)'}},
 }
 
 

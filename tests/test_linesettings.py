@@ -7,75 +7,10 @@ from alwaysnew.errors import InvalidBox, InvalidState, NotReached
 from alwaysnew.lines import line_standing
 from alwaysnew.linesettings import new_standings, places_in_line
 from tests.examples import (ALL, COUNT, FIRST, GAPS, LAST, NEW, ODD, OLD, ONCE, SIXTY, caught, is_new_kind,
-                            made_machine, plain_line, standings_of)
+                            standings_of)
+from tests.lineexamples import AB, DEAF, HEARS, LOUD, XY, cases, joint, plain_places
 
-AB, XY = ('a', 'b'), ('x', 'y')
-HEARS = (XY, (((1, 'a'), (0, '')), ((0, 'b'), (1, 'a'))))
-DEAF = (XY, (((1, ''), (0, 'a')), ((1, 'b'), (0, ''))))
-# It says a name that no machine here reads, in a state that is not reached.
-LOUD = (AB, (((0, ''), (0, 'x')), ((0, 'loud'), (0, ''))))
 QUIETS = ((), ('x',), ('no', 'yes'), ('a', 'never', 'x', 'y'))
-
-
-def joint(pieces, line):
-    """Return all pairs of standings to which one past leads both lines."""
-    found = {((0,) * len(pieces), (0,) * len(line))}
-    while True:
-        more = {(plain_line(pieces, one, letter)[0], plain_line(line, other, letter)[0])
-                for one, other in found for letter in pieces[0][0]} | found
-        if more == found:
-            return found
-        found = more
-
-
-def unlike_standings(line, quiet):
-    """Return all pairs of standings of a line that are not alike."""
-    standings = standings_of(line)
-    after = {(one, letter): plain_line(line, one, letter) for one in standings for letter in line[0][0]}
-    after = {key: (standing, '' if word in quiet else word) for key, (standing, word) in after.items()}
-    unlike = set()
-    while True:
-        more = {(one, other) for one in standings for other in standings for letter in line[0][0]
-                if after[one, letter][1] != after[other, letter][1]
-                or (after[one, letter][0], after[other, letter][0]) in unlike}
-        if more == unlike:
-            return unlike
-        unlike = more
-
-
-def plain_places(pieces, index, new, states, free, quiet, wanted):
-    """Return all settings, by the words of [44]."""
-    line = (*pieces[:index], new, *pieces[index + 1:])
-    unlike = unlike_standings(line, quiet)
-    places = []
-    for setting in standings_of([new, *[pieces[at] for at in free]]):
-        standing = list(states)
-        for at, state in zip((index, *free), setting):
-            standing[at] = state
-        if not any((tuple(standing), one) in unlike for one in wanted):
-            places.append(setting)
-    return tuple(places)
-
-
-def cases():
-    """Yield lines with a piece to replace, its index, and the machine that takes its place."""
-    yield (ONCE, ALL), 1, COUNT
-    yield (ONCE, COUNT), 1, ALL
-    yield (ONCE, COUNT), 0, (AB, (((0, 'go'), (1, '')), ((1, ''), (0, 'go'))))
-    yield (LAST, HEARS, NEW), 1, DEAF
-    yield (LAST, HEARS, NEW), 2, FIRST
-    yield (LAST, HEARS, NEW), 0, FIRST
-    yield (FIRST, HEARS, OLD), 1, HEARS
-    yield (OLD,), 0, NEW
-    yield (NEW,), 0, OLD
-    yield (GAPS,), 0, LOUD
-    for seed in range(0, 24, 3):
-        first = made_machine(seed, 3, AB, ('', 'x', 'y'))
-        second = made_machine(seed + 1, 2, XY, ('', 'a'))
-        third = made_machine(seed + 2, 2, AB, ('', 'a', 'x'))
-        yield (first, second, third), 0, made_machine(seed + 50, 2, AB, ('x', 'y'))
-        yield (first, second, third), 1, made_machine(seed + 51, 3, XY, ('', 'b'))
-        yield (first, second, third), 2, made_machine(seed + 52, 3, AB, ('', 'x'))
 
 
 class LineSettingsTest(unittest.TestCase):
