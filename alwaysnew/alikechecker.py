@@ -1,7 +1,7 @@
 """The checker of alike papers."""
 
 from alwaysnew.errors import InvalidPaper
-from alwaysnew.kinds import is_number, is_reading
+from alwaysnew.kinds import is_number_pair, is_reading
 from alwaysnew.pairs import are_paired, rises
 from alwaysnew.running import check_state, is_letter, is_parting, quieted
 
@@ -30,7 +30,7 @@ def has_shape(thing, form):
     if not isinstance(thing, tuple) or len(thing) != 2:
         return False
     if thing[0] == form:
-        return isinstance(thing[1], tuple) and all([_is_number_pair(pair) for pair in thing[1]])
+        return isinstance(thing[1], tuple) and all([is_number_pair(pair) for pair in thing[1]])
     return thing[0] == "apart" and is_reading(thing[1])
 
 
@@ -58,10 +58,6 @@ def check_apart(machine, one, other, reading, quiet):
             raise InvalidPaper("letter", at)
     if not is_parting(machine, one, other, reading, quiet):
         raise InvalidPaper("same", -1)
-
-
-def _is_number_pair(thing):
-    return isinstance(thing, tuple) and len(thing) == 2 and is_number(thing[0]) and is_number(thing[1])
 
 
 def _check_order(machine, pairs):

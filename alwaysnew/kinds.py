@@ -31,6 +31,16 @@ def is_reading(thing):
     return isinstance(thing, tuple) and all([is_name(name) for name in thing])
 
 
+def are_numbers(thing):
+    """Return whether thing is a tuple of numbers."""
+    return isinstance(thing, tuple) and all([is_number(part) for part in thing])
+
+
+def is_number_pair(thing):
+    """Return whether thing is a tuple of two numbers."""
+    return are_numbers(thing) and len(thing) == 2
+
+
 def is_quiet(thing):
     """Return whether thing is a set of names: an ascending tuple, possibly empty."""
     return is_reading(thing) and all([thing[at - 1] < thing[at] for at in range(1, len(thing))])

@@ -2,17 +2,14 @@
 
 from alwaysnew.alikepapers import alike_paper
 from alwaysnew.lines import line_rows
-from alwaysnew.linesettings import changed_line, set_pieces, set_standing, standing_pasts
+from alwaysnew.linesettings import changed_line, checked_setting
 from alwaysnew.pairs import ordered_pair
-from alwaysnew.running import check_states
 
 
 def line_paper(pieces, index, new, states, setting, *, free=(), quiet=()):
     """Return a line paper of the setting."""
-    ends = standing_pasts(pieces, index, new, states, free)
-    check_states(set_pieces(pieces, new, free), setting)
+    ends, start = checked_setting(pieces, index, new, states, setting, free)
     line = changed_line(pieces, index, new)
-    start = set_standing(states, index, free, setting)
     starts = [start, *[standing for standing in ends if standing != start]]
     standings, rows = line_rows(line, starts)
     pairs = {}

@@ -16,10 +16,7 @@ def line_standing(pieces, past):
     """Return the line standing to which the past leads from (0, .., 0)."""
     check_pieces(pieces)
     check_reading(pieces[0][0], past)
-    states = (0,) * len(pieces)
-    for letter in past:
-        states = line_moved(pieces, states, letter)[0]
-    return states
+    return line_led(pieces, (0,) * len(pieces), past)[0]
 
 
 def check_pieces(pieces):
@@ -48,6 +45,14 @@ def line_moved(pieces, states, letter):
         if word == "":
             break
     return (tuple(standing), word)
+
+
+def line_led(pieces, states, reading):
+    """Return the pair of the line standing to which the reading leads, and the last word that the line says."""
+    word = ""
+    for letter in reading:
+        states, word = line_moved(pieces, states, letter)
+    return (states, word)
 
 
 def line_rows(pieces, starts):

@@ -16,9 +16,9 @@ def places_in_line(pieces, index, new, states, *, free=(), quiet=()):
     """Return the set of all settings whose set standing is alike, in the new line, with each new standing."""
     standings = list(standing_pasts(pieces, index, new, states, free))
     settings = [()]
-    for piece in set_pieces(pieces, new, free):
+    for piece in _set_pieces(pieces, new, free):
         settings = [(*setting, state) for setting in settings for state in range(len(piece[1]))]
-    set_standings = [set_standing(states, index, free, setting) for setting in settings]
+    set_standings = [_set_standing(states, index, free, setting) for setting in settings]
     line = changed_line(pieces, index, new)
     classes = _line_classes(line, sorted(set([*standings, *set_standings])), quiet)
     wanted = [classes[standing] for standing in standings]
@@ -46,18 +46,23 @@ def standing_pasts(pieces, index, new, states, free):
     return {standing: found[standing] for standing in sorted(found)}
 
 
+def checked_setting(pieces, index, new, states, setting, free):
+    """Return the pair of what standing_pasts returns and the set standing, behind the errors of both."""
+    found = standing_pasts(pieces, index, new, states, free)
+    check_states(_set_pieces(pieces, new, free), setting)
+    return (found, _set_standing(states, index, free, setting))
+
+
 def changed_line(pieces, index, new):
     """Return the pieces of the new line."""
     return (*pieces[:index], new, *pieces[index + 1:])
 
 
-def set_pieces(pieces, new, free):
-    """Return the list of the machines of which a setting has states."""
+def _set_pieces(pieces, new, free):
     return [new, *[pieces[at] for at in free]]
 
 
-def set_standing(states, index, free, setting):
-    """Return the set standing of a setting."""
+def _set_standing(states, index, free, setting):
     standing = list(states)
     places = (index, *free)
     for at in range(len(places)):

@@ -9,6 +9,11 @@ def is_letter(letters, thing):
     return isinstance(thing, str) and thing in letters
 
 
+def are_letters(letters, things):
+    """Return whether all things, any values, are among the letters."""
+    return all([is_letter(letters, thing) for thing in things])
+
+
 def check_reading(letters, reading):
     """Raise InvalidLetter for the first element of reading that is none of the letters."""
     for thing in reading:

@@ -11,6 +11,9 @@ YESNO = ('no', 'yes')
 BOTH = (OLD, NEW)
 KNOWN = Knowledge((OLD,), ((0,),)).extended(NEW)
 LINE = {'pieces': (ONCE, ALL), 'index': 1, 'new': COUNT, 'states': (1, 0)}
+ENOUGH = ('enough', (((0, 0), (0, 1), 0), ((1, 0), (1, 1), 0)))
+SAME_STATE, PAIRS = ('alike', ()), ('alike', ((0, 1), (0, 2), (1, 2)))
+BOOK = (((0,), 0, (0,), (0, 1)), ((0,), 1, (2,), (1, 1)), ((1,), 0, (1,), (0, 1)), ((1,), 1, (2,), (1, 1)))
 SAME = ('same', ((0, 0), (0, 2), (1, 1), (1, 2)))
 # Module, function, arguments in their order, keyword-only arguments, and default values if these may be omitted here.
 CALLS = (
@@ -32,6 +35,20 @@ CALLS = (
     ('readiness', 'ready_versions', {'k': KNOWN}, {'quiet': YESNO}, {'quiet': ()}),
     ('linepapers', 'line_paper', {**LINE, 'setting': (0,)}, {'quiet': ('x',)}, {'free': (), 'quiet': ()}),
     ('linepapers', 'line_paper', {**LINE, 'setting': (0, 1)}, {'free': (0,), 'quiet': ('x',)}, {}),
+    ('linechecker', 'lets_line', {**LINE, 'setting': (1,), 'thing': ('true', ())}, {}, {'free': (), 'quiet': ()}),
+    ('linechecker', 'lets_line', {**LINE, 'setting': (0, 1), 'thing': ('true', (((1, 0), (1, 1)),))}, {'free': (0,)},
+     {}),
+    ('truthpapers', 'truth_paper', {'k': KNOWN, 'i': 1, 't': 0}, {'quiet': YESNO}, {'quiet': ()}),
+    ('truthchecker', 'lets_truth', {'k': KNOWN, 'i': 1, 't': 0, 'thing': ('wrong', ('b',), ('b',))}, {}, {'quiet': ()}),
+    ('truthchecker', 'lets_truth', {'k': KNOWN, 'i': 1, 't': 0, 'thing': ('true', (SAME_STATE, PAIRS))},
+     {'quiet': YESNO}, {}),
+    ('tails', 'least_tail', {'old': OLD, 'new': NEW}, {'quiet': YESNO}, {'quiet': ()}),
+    ('tailpapers', 'tail_paper', {'old': OLD, 'new': LAST}, {'quiet': ('x',)}, {'quiet': ()}),
+    ('tailchecker', 'lets_tail', {'old': OLD, 'new': LAST, 'thing': ENOUGH}, {'quiet': ('x',)}, {'quiet': ()}),
+    ('notebooks', 'least_notes', {'versions': BOTH, 'hand': (0,), 'wanted': (1,)}, {'quiet': YESNO}, {'quiet': ()}),
+    ('notebooks', 'notebook', {'versions': BOTH, 'hand': (0,), 'wanted': (1,)}, {'quiet': YESNO}, {'quiet': ()}),
+    ('notebooks', 'note_after', {'versions': BOTH, 'hand': (0,), 'book': BOOK, 'past': ('a', 'b')}, {}, {}),
+    ('notepapers', 'needs_paper', {'versions': BOTH, 'hand': (0,), 'wanted': (1,)}, {'quiet': YESNO}, {'quiet': ()}),
 )
 
 

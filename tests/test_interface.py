@@ -32,6 +32,16 @@ FUNCTIONS = {
                   'past_to_standing': '(versions, standing)', 'standings_led': '(versions, standings, reading)'},
     'readiness': {'true_states': '(k, i, *, quiet=())', 'is_true': '(k, i, t, *, quiet=())',
                   'is_ready': '(k, i, *, quiet=())', 'ready_versions': '(k, *, quiet=())'},
+    'truthpapers': {'truth_paper': '(k, i, t, *, quiet=())'},
+    'truthchecker': {'lets_truth': '(k, i, t, thing, *, quiet=())'},
+    'tails': {'least_tail': '(old, new, *, quiet=())'},
+    'tailpapers': {'tail_paper': '(old, new, *, quiet=())'},
+    'tailchecker': {'lets_tail': '(old, new, thing, *, quiet=())'},
+    'linechecker': {'lets_line': '(pieces, index, new, states, setting, thing, *, free=(), quiet=())'},
+    'notebooks': {'least_notes': '(versions, hand, wanted, *, quiet=())',
+                  'notebook': '(versions, hand, wanted, *, quiet=())',
+                  'note_after': '(versions, hand, book, past)'},
+    'notepapers': {'needs_paper': '(versions, hand, wanted, *, quiet=())'},
     'linepapers': {'line_paper': '(pieces, index, new, states, setting, *, free=(), quiet=())'},
 }
 CLASSES = {
