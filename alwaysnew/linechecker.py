@@ -2,12 +2,13 @@
 
 from alwaysnew.alikechecker import check_followers
 from alwaysnew.errors import InvalidPaper
-from alwaysnew.kinds import are_numbers, is_reading
+from alwaysnew.kinds import are_numbers
 from alwaysnew.lines import line_led, line_moved
 from alwaysnew.linesettings import changed_line, checked_setting
 from alwaysnew.pairs import are_paired, rises
 from alwaysnew.running import are_letters, unsaid
 from alwaysnew.standings import is_standing
+from alwaysnew.truthchecker import has_truth_shape
 
 
 def lets_line(pieces, index, new, states, setting, thing, *, free=(), quiet=()):
@@ -33,11 +34,7 @@ def lets_line(pieces, index, new, states, setting, thing, *, free=(), quiet=()):
 
 
 def _has_shape(thing):
-    if not isinstance(thing, tuple):
-        return False
-    if len(thing) == 2:
-        return thing[0] == "true" and isinstance(thing[1], tuple) and all([_is_pair(pair) for pair in thing[1]])
-    return len(thing) == 3 and thing[0] == "wrong" and is_reading(thing[1]) and is_reading(thing[2])
+    return has_truth_shape(thing) and (thing[0] == "wrong" or all([_is_pair(pair) for pair in thing[1]]))
 
 
 def _is_pair(thing):

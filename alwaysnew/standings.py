@@ -21,9 +21,8 @@ def past_to_standing(versions, standing):
 
 def standings_led(versions, standings, reading):
     """Return the set of the standings to which the reading leads from the standings."""
+    # Without any standing nothing else would look at the reading.
     check_reading(versions[0][0], reading)
-    for standing in standings:
-        check_states(versions, standing)
     return tuple(sorted(set([standing_led(versions, standing, reading) for standing in standings])))
 
 

@@ -15,7 +15,7 @@ def lets_truth(k, i, t, thing, *, quiet=()):
     places = k.places(i)
     machine = k.versions[i]
     check_state(machine, t)
-    if not _has_shape(thing):
+    if not has_truth_shape(thing):
         raise InvalidPaper("shape", -1)
     if thing[0] == "true":
         _check_alike(machine, t, places, thing[1], quiet)
@@ -29,7 +29,8 @@ def lets_truth(k, i, t, thing, *, quiet=()):
     return False
 
 
-def _has_shape(thing):
+def has_truth_shape(thing):
+    """Return whether thing is "true" with a tuple of any values, or "wrong" with two tuples of names."""
     if not isinstance(thing, tuple):
         return False
     if len(thing) == 2:

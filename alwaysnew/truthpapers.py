@@ -1,14 +1,12 @@
 """Papers that a state is true for a knowledge, or that it is not."""
 
 from alwaysnew.alikepapers import alike_paper
-from alwaysnew.running import check_state
 from alwaysnew.standings import past_to_standing
 
 
 def truth_paper(k, i, t, *, quiet=()):
     """Return a truth paper of the state t of version i."""
     places = k.places(i)
-    check_state(k.versions[i], t)
     papers = [alike_paper(k.versions[i], t, place, quiet=quiet) for place in places]
     for at in range(len(places)):
         form, found = papers[at]

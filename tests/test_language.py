@@ -186,6 +186,14 @@ class LanguageTest(unittest.TestCase):
             self.assertIsInstance(node.exc, ast.Call, (name, node.lineno))
             self.assertIsInstance(node.exc.func, ast.Name, (name, node.lineno))
 
+    def test_generators_have_names_of_their_own(self):
+        made = [node.name for _, node in nodes(ast.FunctionDef)]
+        for name, node in nodes(ast.FunctionDef):
+            if any(isinstance(one, (ast.Yield, ast.YieldFrom)) for one in ast.walk(node)):
+                self.assertEqual(made.count(node.name), 1, name)
+                used = [one for _, one in nodes(ast.Name) if one.id == node.name]
+                self.assertEqual(used, [], (name, node.name))
+
     def test_loops_do_not_change_what_they_go_over(self):
         for name, node in nodes(ast.For):
             over = {one.id for one in ast.walk(node.iter) if isinstance(one, ast.Name)}

@@ -24,7 +24,7 @@ class TailPapersTest(unittest.TestCase):
 
     def test_each_paper(self):
         forms = []
-        for (old, new), quiet in itertools.product(machine_pairs(), ((), ('x',), ('go', 'never', 'no', 'yes'))):
+        for (old, new), quiet in itertools.product(machine_pairs(), ((), ('x',), ('no',), ('go', 'never', 'no', 'yes'))):
             forms.append(self.check(old, new, quiet)[0])
         self.assertGreater(min(forms.count('enough'), forms.count('never')), 50)
 
@@ -34,6 +34,15 @@ class TailPapersTest(unittest.TestCase):
             self.assertEqual(len(paper[3]), 2)
             self.assertEqual(plain_run(new, paper[3])[0], 0)
             self.assertEqual(plain_run(new, paper[3], 1)[0], 1)
+
+    def test_a_ring_and_a_rest_of_several_letters(self):
+        # From 1 and 2 the letters a, b lead back, and b, a to states 5 and 6, which are one state of the old machine.
+        ways = ((1, 2), (8, 3), (9, 4), (5, 7), (6, 7), (7, 7), (7, 7), (7, 7), (7, 1), (7, 2))
+        words = {5: 'x', 6: 'y'}
+        new = (('a', 'b'), tuple(((one, words.get(k, '')), (other, '')) for k, (one, other) in enumerate(ways)))
+        old = (('a', 'b'), tuple(((5 if one == 6 else one, ''), (other, '')) for one, other in ways))
+        paper = self.check(old, new)
+        self.assertEqual((sorted(paper[3]), paper[4][-2:]), (['a', 'b'], ('b', 'a')))
 
     def test_a_rest_behind_the_ring(self):
         # After the ring of letter a, letter b makes the old states equal.
