@@ -13,11 +13,7 @@ def parting_reading(machine, one, other, *, quiet=()):
     """Return the least of the shortest readings that part the two states, or None if they are alike."""
     check_state(machine, one)
     check_state(machine, other)
-    ways, parting = pair_ways(quieted(machine, quiet), one, other)
-    if parting is None:
-        return None
-    pair, letter = parting
-    return (*past_along(ways, pair), letter)
+    return parting_way(quieted(machine, quiet), one, other)
 
 
 def classes_of(machine, *, quiet=()):
@@ -31,12 +27,22 @@ def classes_of(machine, *, quiet=()):
     return tuple(classes)
 
 
-def pair_ways(machine, one, other):
+def parting_way(machine, one, other, goals=None):
+    """Return the least of the shortest readings that part the two states, and lead them to one of goals; or None."""
+    ways, parting = pair_ways(machine, one, other, goals)
+    if parting is None:
+        return None
+    pair, letter = parting
+    return (*past_along(ways, pair), letter)
+
+
+def pair_ways(machine, one, other, goals=None):
     """Lead two states on together by all letters, until a letter says different words from both.
 
     Return a dict of the pairs of different states that were found, the lesser state first, in the order of the
     least readings to them, with the pair and the letter before each (None for the first pair); and the pair and the
-    letter that says different words, or None.
+    letter that says different words, or None. If there are goals, pairs of any states, the lesser one first, this
+    letter leads to one of these.
     """
     letters, rows = machine
     order = [] if one == other else [ordered_pair(one, other)]
@@ -49,9 +55,9 @@ def pair_ways(machine, one, other):
         for place in range(len(letters)):
             one_next, one_word = one_row[place]
             other_next, other_word = other_row[place]
-            if one_word != other_word:
-                return (ways, (order[done], letters[place]))
             pair = ordered_pair(one_next, other_next)
+            if one_word != other_word and (goals is None or pair in goals):
+                return (ways, (order[done], letters[place]))
             if one_next != other_next and pair not in ways:
                 ways[pair] = (order[done], letters[place])
                 order.append(pair)

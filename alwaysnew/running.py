@@ -14,6 +14,15 @@ def are_letters(letters, things):
     return all([is_letter(letters, thing) for thing in things])
 
 
+def first_stranger(letters, readings):
+    """Return the pair (which reading, which element) of the first element that is none of the letters, or None."""
+    for at in range(len(readings)):
+        for place in range(len(readings[at])):
+            if not is_letter(letters, readings[at][place]):
+                return (at, place)
+    return None
+
+
 def check_reading(letters, reading):
     """Raise InvalidLetter for the first element of reading that is none of the letters."""
     for thing in reading:
@@ -59,6 +68,13 @@ def is_parting(machine, one, other, reading, quiet):
     one_words = said(machine, reading, state=one, quiet=quiet)
     other_words = said(machine, reading, state=other, quiet=quiet)
     return one_words[-1:] != other_words[-1:]
+
+
+def wrong_words(machine, one, other, reading, quiet):
+    """Return the number of words of the reading that both states say differently, quiet ones left unsaid."""
+    one_words = said(machine, reading, state=one, quiet=quiet)
+    other_words = said(machine, reading, state=other, quiet=quiet)
+    return len([at for at in range(len(reading)) if one_words[at] != other_words[at]])
 
 
 def step(machine, state, letter):

@@ -1,6 +1,7 @@
 """Papers that a number of kept letters is enough, or that none is."""
 
 from alwaysnew.alikeness import parting_reading
+from alwaysnew.rings import ring_behind
 from alwaysnew.standings import past_to_standing, standing_led
 from alwaysnew.tailpairs import bad_pairs, check_letters, pair_ranks, pairs_before
 
@@ -25,14 +26,12 @@ def tail_paper(old, new, *, quiet=()):
 
 def _ring_before(before, ranks, bad):
     """Return a pair, a ring that leads it to itself, and a rest that leads it to the bad pair, which has no rank."""
-    pair = bad
-    places = {}
-    backwards = []
-    # A pair without a rank has one such pair before it: so going back, some pair comes again.
-    while pair not in places:
-        places[pair] = len(backwards)
+
+    def onward(pair):
+        """Return a pair without a rank that a letter leads to the pair, and this letter."""
         earlier = [one for one in before[pair] if one not in ranks][0]
-        backwards.append(before[pair][earlier])
-        pair = earlier
-    first = places[pair]
-    return (pair, tuple(backwards[first:][::-1]), tuple(backwards[:first][::-1]))
+        return (earlier, (before[pair][earlier],))
+
+    # A pair without a rank has one such pair before it: so going back, some pair comes again.
+    pair, rest, ring = ring_behind(bad, onward)
+    return (pair, ring[::-1], rest[::-1])

@@ -5,7 +5,7 @@ import importlib
 import unittest
 
 from alwaysnew.knowledge import Knowledge
-from tests.examples import ALL, COUNT, LAST, NEW, OLD, ONCE, is_new_kind, plain_equal
+from tests.examples import ALL, COUNT, LAST, LATE, NEW, OLD, ONCE, is_new_kind, plain_equal
 
 YESNO = ('no', 'yes')
 BOTH = (OLD, NEW)
@@ -49,6 +49,19 @@ CALLS = (
     ('notebooks', 'notebook', {'versions': BOTH, 'hand': (0,), 'wanted': (1,)}, {'quiet': YESNO}, {'quiet': ()}),
     ('notebooks', 'note_after', {'versions': BOTH, 'hand': (0,), 'book': BOOK, 'past': ('a', 'b')}, {}, {}),
     ('notepapers', 'needs_paper', {'versions': BOTH, 'hand': (0,), 'wanted': (1,)}, {'quiet': YESNO}, {'quiet': ()}),
+    ('versionchecker', 'lets_versions', {'thing': BOTH}, {}, {}),
+    ('waiting', 'soonest', {'machine': LATE, 'states': (0, 1)}, {'quiet': ('x',)}, {'quiet': ()}),
+    ('waiting', 'latest', {'machine': LATE, 'states': (0, 1)}, {'quiet': ('x',)}, {'quiet': ()}),
+    ('harm', 'harm_of', {'machine': LATE, 'one': 0, 'states': (1, 2)}, {'quiet': ('x',)}, {'quiet': ()}),
+    ('harm', 'least_harm', {'machine': LATE, 'states': (0, 1)}, {'quiet': ('x',)}, {'quiet': ()}),
+    ('harm', 'heals_within', {'machine': LATE, 'one': 0, 'states': (1, 2)}, {'quiet': ('x',)}, {'quiet': ()}),
+    ('harmpapers', 'harm_paper', {'machine': LATE, 'one': 0, 'states': (1, 2)}, {'quiet': ('x',)}, {'quiet': ()}),
+    ('choosing', 'sure_harm', {'machine': LATE, 'states': (0, 1), 'many': 1}, {'quiet': ('x',)}, {'quiet': ()}),
+    ('choosing', 'best_wait', {'machine': LATE, 'states': (0, 1)}, {'quiet': ('x',)}, {'quiet': ()}),
+    ('choicepapers', 'choice_paper', {'machine': LATE, 'states': (0, 1), 'many': 1}, {'quiet': ('x',)}, {'quiet': ()}),
+    ('quietsets', 'least_quiet', {'machine': LATE, 'states': (0, 1)}, {'most': 1}, {'most': 0}),
+    ('quietpapers', 'quiet_paper', {'machine': LATE, 'states': (0, 1), 'words': ('x', 'y')}, {'most': 0}, {'most': 0}),
+    ('quietpapers', 'quiet_paper', {'machine': LATE, 'states': (0, 1), 'words': ('x',)}, {'most': 1}, {'most': 0}),
 )
 
 

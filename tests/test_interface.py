@@ -43,6 +43,15 @@ FUNCTIONS = {
                   'note_after': '(versions, hand, book, past)'},
     'notepapers': {'needs_paper': '(versions, hand, wanted, *, quiet=())'},
     'linepapers': {'line_paper': '(pieces, index, new, states, setting, *, free=(), quiet=())'},
+    'versionchecker': {'lets_versions': '(thing)'},
+    'waiting': {'soonest': '(machine, states, *, quiet=())', 'latest': '(machine, states, *, quiet=())'},
+    'harm': {'harm_of': '(machine, one, states, *, quiet=())', 'least_harm': '(machine, states, *, quiet=())',
+             'heals_within': '(machine, one, states, *, quiet=())'},
+    'harmpapers': {'harm_paper': '(machine, one, states, *, quiet=())'},
+    'choosing': {'sure_harm': '(machine, states, many, *, quiet=())', 'best_wait': '(machine, states, *, quiet=())'},
+    'choicepapers': {'choice_paper': '(machine, states, many, *, quiet=())'},
+    'quietsets': {'least_quiet': '(machine, states, *, most=0)'},
+    'quietpapers': {'quiet_paper': '(machine, states, words, *, most=0)'},
 }
 CLASSES = {
     'errors': {'NewError': {}, 'PaperError': {}, 'MachineError': {}, 'ServiceError': {}, 'TextError': {},
