@@ -11,26 +11,36 @@ from alwaysnew.running import led
 def pair_waits(machine, quiet):
     """Return a dict of the pairs: the least number of letters after which both states are alike, whatever is read."""
     classes = classes_of(machine, quiet=quiet)
+    moves = _moves(machine)
 
-    def goes_on(pair, left):
-        """Return whether the states are not alike, and a letter leads them to one of the pairs left."""
-        one, other = pair
-        if classes[one] == classes[other]:
-            return False
-        return any([follower in left for follower in _followers(machine, one, other)])
+    def further(left):
+        """Return a dict of the pairs of states that are not alike, and that a letter leads to one of those left."""
+        unlike = [pair for pair in left if classes[pair[0]] != classes[pair[1]]]
+        return {pair: True for pair in unlike if any([follower in left for follower, _ in moves[pair]])}
 
-    return _levels(machine, goes_on)
+    return _levels(moves, further)
 
 
 def pair_harms(machine):
     """Return a dict of the pairs: the greatest number of words in a reading that both states say differently."""
+    moves = _moves(machine)
+    before = _pairs_before(moves)
 
-    def goes_on(pair, left):
-        """Return whether a reading with a wrong word leads the states to one of the pairs left."""
-        one, other = pair
-        return parting_way(machine, one, other, left) is not None
+    def further(left):
+        """Return a dict of the pairs that a reading whose last word is wrong leads to one of those left."""
+        order = [pair for pair in left if any([is_wrong and follower in left for follower, is_wrong in moves[pair]])]
+        found = {pair: True for pair in order}
+        done = 0
+        while done < len(order):
+            reached = order[done]
+            for earlier in before[reached]:
+                if earlier not in found:
+                    found[earlier] = True
+                    order.append(earlier)
+            done += 1
+        return found
 
-    return _levels(machine, goes_on)
+    return _levels(moves, further)
 
 
 def reading_with(machine, harms, pair, many):
@@ -60,27 +70,47 @@ def is_beyond(number, most):
     return number is None or number > most
 
 
-def _levels(machine, goes_on):
-    """Number the pairs: 0 those that do not go on to any pair, 1 the others that go on to such ones only, and so on.
+def _moves(machine):
+    """Return a dict of the pairs, and for each the list of the pairs to which the letters lead it.
 
-    goes_on takes a pair and a dict, and returns whether the pair goes on to one of those in the dict. A pair that
-    goes on for ever has None.
+    Beside each of these stands whether the letter says different words from both states.
     """
-    many = len(machine[1])
-    left = {(one, other): True for one in range(many) for other in range(one, many)}
-    levels = {pair: None for pair in left}
+    rows = machine[1]
+    moves = {}
+    for one in range(len(rows)):
+        for other in range(one, len(rows)):
+            moves[(one, other)] = [_move(rows[one][place], rows[other][place]) for place in range(len(rows[one]))]
+    return moves
+
+
+def _move(one, other):
+    return (ordered_pair(one[0], other[0]), one[1] != other[1])
+
+
+def _pairs_before(moves):
+    """Return a dict of the pairs, and for each the list of those that a letter leads to it."""
+    before = {pair: [] for pair in moves}
+    for pair in moves:
+        for follower, _ in moves[pair]:
+            before[follower].append(pair)
+    return before
+
+
+def _levels(pairs, further):
+    """Return a dict of the pairs with their levels: how often they are among those that further returns.
+
+    further takes a dict of the pairs that are left, and returns a dict of those of them that stay. A pair that stays
+    for ever has None.
+    """
+    levels = {pair: None for pair in pairs}
+    left = {pair: True for pair in pairs}
     level = 0
-    further = {pair: True for pair in left if goes_on(pair, left)}
-    while len(further) < len(left):
+    staying = further(left)
+    while len(staying) < len(left):
         for pair in left:
-            if pair not in further:
+            if pair not in staying:
                 levels[pair] = level
+        left = staying
         level += 1
-        left = further
-        further = {pair: True for pair in left if goes_on(pair, left)}
+        staying = further(left)
     return levels
-
-
-def _followers(machine, one, other):
-    one_row, other_row = machine[1][one], machine[1][other]
-    return [ordered_pair(one_row[place][0], other_row[place][0]) for place in range(len(one_row))]

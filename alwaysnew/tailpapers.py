@@ -27,10 +27,10 @@ def tail_paper(old, new, *, quiet=()):
 def _ring_before(before, ranks, bad):
     """Return a pair, a ring that leads it to itself, and a rest that leads it to the bad pair, which has no rank."""
 
-    def onward(pair):
-        """Return a pair without a rank that a letter leads to the pair, and this letter."""
-        earlier = [one for one in before[pair] if one not in ranks][0]
-        return (earlier, (before[pair][earlier],))
+    def onward(place):
+        """Return a pair without a rank that a letter leads to the place, and this letter."""
+        earlier = [one for one in before[place] if one not in ranks][0]
+        return (earlier, (before[place][earlier],))
 
     # A pair without a rank has one such pair before it: so going back, some pair comes again.
     pair, rest, ring = ring_behind(bad, onward)

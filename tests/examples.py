@@ -41,7 +41,7 @@ NAME = '[a-z]{1,8}'
 NUMBER = '(0|[1-9][0-9]{0,59})'
 
 REFUSED = (errors.InvalidPaper, errors.InvalidLetter, errors.InvalidState, errors.InvalidBox, errors.NotReached,
-           errors.InvalidKnowledge, errors.InvalidText)
+           errors.InvalidKnowledge, errors.InvalidText, errors.InvalidEvent, errors.NothingToUndo, errors.InvalidRow)
 
 
 def caught(call, *args, **named):

@@ -5,6 +5,7 @@ import importlib
 import unittest
 
 from alwaysnew.knowledge import Knowledge
+from alwaysnew.services import Service
 from tests.examples import ALL, COUNT, LAST, LATE, NEW, OLD, ONCE, is_new_kind, plain_equal
 
 YESNO = ('no', 'yes')
@@ -14,6 +15,8 @@ LINE = {'pieces': (ONCE, ALL), 'index': 1, 'new': COUNT, 'states': (1, 0)}
 ENOUGH = ('enough', (((0, 0), (0, 1), 0), ((1, 0), (1, 1), 0)))
 SAME_STATE, PAIRS = ('alike', ()), ('alike', ((0, 1), (0, 2), (1, 2)))
 BOOK = (((0,), 0, (0,), (0, 1)), ((0,), 1, (2,), (1, 1)), ((1,), 0, (1,), (0, 1)), ((1,), 1, (2,), (1, 1)))
+WAIT, NEEDS = ('within', (((0, 1), 2), ((1, 2), 1))), (((), ('b',)), ((1, ('b',)),))
+HARM, SAME_HARM = ('most', 1, ('a', 'a'), ((0, 1, 2), (1, 2, 1))), ('most', 2, (), ())
 SAME = ('same', ((0, 0), (0, 2), (1, 1), (1, 2)))
 # Module, function, arguments in their order, keyword-only arguments, and default values if these may be omitted here.
 CALLS = (
@@ -62,6 +65,23 @@ CALLS = (
     ('quietsets', 'least_quiet', {'machine': LATE, 'states': (0, 1)}, {'most': 1}, {'most': 0}),
     ('quietpapers', 'quiet_paper', {'machine': LATE, 'states': (0, 1), 'words': ('x', 'y')}, {'most': 0}, {'most': 0}),
     ('quietpapers', 'quiet_paper', {'machine': LATE, 'states': (0, 1), 'words': ('x',)}, {'most': 1}, {'most': 0}),
+    ('waitpapers', 'wait_paper', {'machine': LATE, 'states': (0, 1)}, {'quiet': ('x',)}, {'quiet': ()}),
+    ('waitchecker', 'lets_wait', {'machine': LATE, 'states': (0, 1), 'thing': WAIT}, {'quiet': ('x',)}, {'quiet': ()}),
+    ('notechecker', 'lets_notebook', {'versions': BOTH, 'hand': (0,), 'wanted': (1,), 'thing': BOOK},
+     {'quiet': ('maybe',)}, {'quiet': ()}),
+    ('notechecker', 'lets_needs', {'versions': BOTH, 'hand': (0,), 'wanted': (1,), 'thing': NEEDS},
+     {'quiet': ('yes',)}, {'quiet': ()}),
+    ('harmchecker', 'lets_harm', {'machine': LATE, 'one': 0, 'states': (0, 1), 'thing': HARM}, {'quiet': ('z',)},
+     {'quiet': ()}),
+    ('choicechecker', 'lets_choice', {'machine': LATE, 'states': (0, 1), 'many': 3, 'thing': ((3, (0, 1), (0, HARM)),)},
+     {'quiet': ('z',)}, {'quiet': ()}),
+    ('quietchecker', 'lets_quiet', {'machine': LATE, 'states': (0, 1), 'words': (), 'thing': (0, HARM, ())},
+     {'most': 2}, {}),
+    ('quietchecker', 'lets_quiet', {'machine': LATE, 'states': (2,), 'words': (), 'thing': (2, SAME_HARM, ())}, {},
+     {'most': 0}),
+    ('services', 'Service', {'machine': NEW}, {'quiet': YESNO}, {'quiet': ()}),
+    ('replaying', 'is_log', {'thing': (('service', OLD, ()), ('read', 'z'))}, {}, {}),
+    ('replaying', 'replayed', {'log': (('service', OLD, ()), ('read', 'a'))}, {}, {}),
 )
 
 
@@ -77,7 +97,7 @@ class EverywhereTest(unittest.TestCase):
                 self.assertTrue(plain_equal(call(**args, **named), found))
                 if defaults:
                     self.assertTrue(plain_equal(call(*args.values()), call(**defaults, **args)))
-                self.assertTrue(isinstance(found, Knowledge) or is_new_kind(found))
+                self.assertTrue(isinstance(found, (Knowledge, Service)) or is_new_kind(found))
                 self.assertEqual((args, named), before)
                 self.assertRaises(TypeError, call, *args.values(), *named.values(), ())
                 self.assertRaises(TypeError, call, **args, more=1)

@@ -113,7 +113,8 @@ class ConsequencesTest(unittest.TestCase):
         for machine, quiet in itertools.product(harm_machines(), QUIETS):
             for one, other in itertools.product(range(len(machine[1])), repeat=2):
                 for call in (harm_of, heals_within):
-                    self.assertEqual(call(machine, one, (other,), quiet=quiet), call(machine, other, (one,), quiet=quiet))
+                    found = call(machine, one, (other,), quiet=quiet)
+                    self.assertEqual(call(machine, other, (one,), quiet=quiet), found)
 
     def test_what_heals_has_no_more_harm(self):
         for machine, states, quiet in cases(3):

@@ -52,6 +52,14 @@ FUNCTIONS = {
     'choicepapers': {'choice_paper': '(machine, states, many, *, quiet=())'},
     'quietsets': {'least_quiet': '(machine, states, *, most=0)'},
     'quietpapers': {'quiet_paper': '(machine, states, words, *, most=0)'},
+    'waitpapers': {'wait_paper': '(machine, states, *, quiet=())'},
+    'waitchecker': {'lets_wait': '(machine, states, thing, *, quiet=())'},
+    'notechecker': {'lets_notebook': '(versions, hand, wanted, thing, *, quiet=())',
+                    'lets_needs': '(versions, hand, wanted, thing, *, quiet=())'},
+    'harmchecker': {'lets_harm': '(machine, one, states, thing, *, quiet=())'},
+    'choicechecker': {'lets_choice': '(machine, states, many, thing, *, quiet=())'},
+    'quietchecker': {'lets_quiet': '(machine, states, words, thing, *, most=0)'},
+    'replaying': {'is_log': '(thing)', 'replayed': '(log)'},
 }
 CLASSES = {
     'errors': {'NewError': {}, 'PaperError': {}, 'MachineError': {}, 'ServiceError': {}, 'TextError': {},
@@ -77,6 +85,19 @@ CLASSES = {
                                 'extended': '(self, machine, *, tail=())', 'forgotten': '(self, i)',
                                 'cut': '(self, tail)', '__or__': '(self, other)', '__and__': '(self, other)',
                                 'lies_in': '(self, other)'}},
+    'services': {'Service': {'__init__': '(self, machine, *, quiet=())', 'versions': 'property',
+                             'knowledge': 'property', 'live': 'property', 'live_state': 'property',
+                             'quiet': 'property', 'is_true': 'property', 'ready': 'property', 'memory': 'property',
+                             'read': '(self, letter)', 'plan': '(self, machine)', 'replace': '(self, version)',
+                             'force': '(self, version, target)', 'forget': '(self, version)',
+                             'set_quiet': '(self, words)', 'go': '(self, event)', '__call__': '(self, letter)',
+                             '__getitem__': '(self, version)', '__contains__': '(self, thing)', '__len__': '(self)',
+                             '__eq__': '(self, other)', '__str__': '(self)', 'tried': '(self, *events)',
+                             'undo': '(self)', 'do_all': '(self, *events, keep=False)', 'counts': '(self)',
+                             'wrongs': '(self)', 'table': '(self)', 'soonest_reading': '(self, version)',
+                             'latest_wait': '(self, version)', 'heal_time': '(self)', 'harm_now': '(self, version)',
+                             'quiet_needed': '(self, version, *, most=0)', 'log': '(self)'}},
+    'desk': {'Desk': {'__init__': '(self)', 'say': '(self, row)', 'counts': '(self)'}},
 }
 
 

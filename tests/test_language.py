@@ -195,6 +195,72 @@ class LanguageTest(unittest.TestCase):
                 used = [one for _, one in nodes(ast.Name) if one.id == node.name]
                 self.assertEqual(used, [], (name, node.name))
 
+    def test_no_comprehension_within_another_scope_has_a_variable_from_around_it(self):
+        scopes = (ast.ListComp, ast.DictComp, ast.FunctionDef)
+
+        def stored(node):
+            names = set()
+            for child in ast.iter_child_nodes(node):
+                if isinstance(child, ast.Name) and isinstance(child.ctx, ast.Store):
+                    names.add(child.id)
+                if not isinstance(child, scopes):
+                    names |= stored(child)
+            return names
+
+        def check(name, node, around):
+            within = around
+            if isinstance(node, scopes):
+                own = stored(node)
+                if isinstance(node, ast.FunctionDef):
+                    own |= {one.arg for one in node.args.args + node.args.kwonlyargs}
+                else:
+                    self.assertFalse(own & set().union(*around[:-1]), (name, node.lineno))
+                within = [*around, own]
+            for child in ast.iter_child_nodes(node):
+                check(name, child, within)
+
+        for name, tree in TREES.items():
+            check(name, tree, [])
+
+    def test_operators_and_properties_change_nothing(self):
+        defined = {}
+        for _, node in nodes(ast.FunctionDef):
+            defined.setdefault(node.name, []).append(node)
+        signs = SPECIAL - {'__init__', '__call__', '__iter__'}
+        left = [node for _, node in nodes(ast.FunctionDef) if node.name in signs
+                or any(isinstance(one, ast.Name) and one.id == 'property' for one in node.decorator_list)]
+        seen = []
+        while left:
+            node = left.pop()
+            if node in seen:
+                continue
+            seen.append(node)
+            parameters = [one.arg for one in node.args.args + node.args.kwonlyargs]
+            plain = [one.targets[0].id for one in ast.walk(node) if isinstance(one, ast.Assign)
+                     and isinstance(one.targets[0], ast.Name)
+                     and isinstance(one.value, (ast.List, ast.ListComp, ast.Dict, ast.Call))]
+            for one in ast.walk(node):
+                if isinstance(one, ast.Attribute):
+                    self.assertIsInstance(one.ctx, ast.Load, (node.name, one.lineno))
+                if isinstance(one, ast.Subscript) and not isinstance(one.ctx, ast.Load):
+                    self.assertIn(one.value.id, plain, (node.name, one.lineno))
+                if not isinstance(one, ast.Call):
+                    continue
+                if isinstance(one.func, ast.Name):
+                    self.assertNotIn(one.func.id, parameters, node.name)
+                    left += defined.get(one.func.id, [])
+                elif one.func.attr in ('append', 'extend', 'pop', 'insert', 'remove', 'clear', 'update', 'setdefault'):
+                    self.assertIn(one.func.value.id, plain, (node.name, one.lineno))
+                elif one.func.attr != '__init__':
+                    left += defined.get(one.func.attr, [])
+        self.assertGreater(len(seen), 40)
+
+    def test_a_class_with_items_refuses_to_be_iterated_over(self):
+        for name, node in nodes(ast.ClassDef):
+            methods = {one.name: one for one in node.body if isinstance(one, ast.FunctionDef)}
+            if '__getitem__' in methods:
+                self.assertIsInstance(methods['__iter__'].body[0], ast.Raise, name)
+
     def test_loops_do_not_change_what_they_go_over(self):
         for name, node in nodes(ast.For):
             over = {one.id for one in ast.walk(node.iter) if isinstance(one, ast.Name)}

@@ -98,7 +98,8 @@ class WaitingTest(unittest.TestCase):
     def test_by_name(self):
         for call in (soonest, latest):
             self.assertEqual(call(states=(0, 1), machine=LATE), call(LATE, (0, 1)))
-            self.assertEqual(call(quiet=('no', 'yes'), states=(0, 2), machine=NEW), call(NEW, (0, 2), quiet=('no', 'yes')))
+            found = call(NEW, (0, 2), quiet=('no', 'yes'))
+            self.assertEqual(call(quiet=('no', 'yes'), states=(0, 2), machine=NEW), found)
             self.assertRaises(TypeError, call, NEW, (0, 2), ())
 
 
